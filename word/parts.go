@@ -24,9 +24,9 @@ func parts(w *api.Word) iter.Seq2[int, uint64] {
 }
 
 // join makes a word of two, part by part. Each pair of parts gets what the pair below it left (a carry, or an order), and leaves something to the next one.
-func join[T any](a, b *api.Word, left T, pair func(x, y uint64, left T) (uint64, T)) (api.Word, T) {
+func join[T any](a, b api.Word, left T, pair func(x, y uint64, left T) (uint64, T)) (api.Word, T) {
 	made := api.Word{}
-	for place, part := range parts(a) {
+	for place, part := range parts(&a) {
 		made[place], left = pair(part, b[place], left)
 	}
 	return made, left

@@ -46,13 +46,13 @@ func FromBytes(s string) api.Word {
 
 // Add is the sum, modulo 2^256.
 func Add(a, b api.Word) api.Word {
-	sum, _ := join(&a, &b, 0, bits.Add64)
+	sum, _ := join(a, b, 0, bits.Add64)
 	return sum
 }
 
 // Sub is the difference, modulo 2^256.
 func Sub(a, b api.Word) api.Word {
-	difference, _ := join(&a, &b, 0, bits.Sub64)
+	difference, _ := join(a, b, 0, bits.Sub64)
 	return difference
 }
 
@@ -67,7 +67,7 @@ func Mul(a, b api.Word) api.Word {
 
 // Cmp is -1, 0 or 1: a's number is less than b's, it is the same, it is greater.
 func Cmp(a, b api.Word) int {
-	_, order := join(&a, &b, 0, func(x, y uint64, below int) (uint64, int) {
+	_, order := join(a, b, 0, func(x, y uint64, below int) (uint64, int) {
 		return 0, cmp.Or(cmp.Compare(x, y), below)
 	})
 	return order
